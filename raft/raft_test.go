@@ -321,6 +321,9 @@ func TestAppendTell(t *testing.T) { // P13.2
 	is(t, "an old entry", l.Hear(tell(2, 2, true), 110), api.Effect{Cut: -1, Send: send(2, 2, 2, 0, api.Entry{Term: 4})})
 	is(t, "beyond the last", l.Hear(tell(2, 99, true), 110), api.Effect{Cut: -1, Commit: 3})
 	looks(t, "committed", l, api.Hard{Term: 4, Vote: 1}, 0, []int{1, 2, 4}, 3, 1, true)
+	if x := l.Tick(110); len(x.Send) != 2 || x.Send[0].Index != 3 {
+		t.Error("next of what is beyond the last", x)
+	}
 	is(t, "of one that is not known", l.Hear(tell(7, 0, false), 110), api.Effect{Cut: -1, Send: send(7, 0, 0, 3, old[0], old[1], api.Entry{Term: 4}), Commit: 3})
 	m := tell(3, 0, false)
 	m.Term = 3
