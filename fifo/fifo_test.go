@@ -91,7 +91,8 @@ func TestNothingShared(t *testing.T) { // P24.2
 	h, _ := q.Head()
 	h.Load[0] = 99
 	all := q.All()
-	q.Pop()
+	popped, _ := q.Pop()
+	popped.Load[0] = 99
 	q.Push(pk(3, 3))
 	for range 2 {
 		n := 1

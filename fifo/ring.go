@@ -1,5 +1,7 @@
 package fifo
 
+import "iter"
+
 // ring is a row with an end, in slots that are taken round and round.
 type ring[T any] struct {
 	slots    []T
@@ -26,11 +28,13 @@ func (r *ring[T]) pop() T {
 	return x
 }
 
-// row is all of them, in order.
-func (r *ring[T]) row() []T {
-	var l []T
-	for k := range r.n {
-		l = append(l, r.slots[(r.first+k)%len(r.slots)])
+// all goes over them, in order.
+func (r *ring[T]) all() iter.Seq[T] {
+	return func(yield func(T) bool) {
+		for k := range r.n {
+			if !yield(r.slots[(r.first+k)%len(r.slots)]) {
+				return
+			}
+		}
 	}
-	return l
 }
