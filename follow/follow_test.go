@@ -42,7 +42,7 @@ func TestTold(t *testing.T) { // P11.2
 		m, n        int
 	}{
 		{0, 5, true, 3, 3, 5}, {0, 5, true, 5, 5, 6}, {4, 5, true, 2, 4, 5}, {4, 9, true, 7, 7, 9}, {0, 1, true, math.MaxInt, most, most + 1}, {-4, -4, true, -4, 0, 1},
-		{0, 9, false, 5, 0, 6}, {0, 9, false, 8, 0, 8}, {0, 9, false, 20, 0, 8}, {6, 9, false, 2, 6, 7}, {0, 1, false, 0, 0, 1}, {0, 9, false, -7, 0, 1}, {3, 2, false, 9, 3, 4}, {math.MaxInt, math.MaxInt, false, math.MaxInt, most, most + 1},
+		{0, 9, false, 5, 0, 6}, {0, 9, false, 8, 0, 8}, {0, 9, false, 20, 0, 8}, {6, 9, false, 2, 6, 7}, {0, 1, false, 0, 0, 1}, {0, 9, false, -7, 0, 1}, {3, 2, false, 9, 3, 4}, {0, math.MaxInt, true, 0, 0, most + 1}, {0, math.MaxInt, false, math.MaxInt, 0, most}, {0, math.MinInt, true, 0, 0, 1}, {0, most + 1, true, 0, 0, most + 1}, {0, 2, true, 0, 0, 2}, {math.MaxInt, math.MaxInt, false, math.MaxInt, most, most + 1},
 	} {
 		got := follow.Told(api.Progress{Node: 4, Match: x.match, Next: x.next}, x.ok, x.index)
 		if got != (api.Progress{Node: 4, Match: x.m, Next: x.n}) {

@@ -247,6 +247,18 @@ func TestCutNewerSame(t *testing.T) { // P9.4, P9.6
 	}
 }
 
+func TestSameFields(t *testing.T) { // P9.4
+	one := func(x api.Entry) api.Rows { return api.Rows{Entries: []api.Entry{x}} }
+	all := []api.Entry{{Term: 1}, {Term: 2}, {Term: 1, Stamp: 1}, {Term: 1, Kind: api.EntryCommand}, {Term: 1, Kind: api.EntryCommand, Data: []byte{1}}, {Term: 1, Kind: api.EntrySet, Set: 1}, {Term: 1, Kind: api.EntrySet, Set: 2}}
+	for i, a := range all {
+		for j, b := range all {
+			if rows.Same(one(a), one(b)) != (i == j) {
+				t.Error(i, j)
+			}
+		}
+	}
+}
+
 func TestNothingShared(t *testing.T) {
 	room := make([]api.Entry, 3, 10)
 	copy(room, terms(1, 1, 2))

@@ -35,6 +35,9 @@ func TestBegin(t *testing.T) { // P10.1
 	if h, l, e := vote.Begin(api.Hard{}, api.Rows{}, 1, 1); h != (api.Hard{Term: 1, Vote: 1}) || len(l) != 0 || e != api.OK {
 		t.Error(h, l, e)
 	}
+	if _, l, _ := vote.Begin(api.Hard{}, api.Rows{}, 127, 4); len(l) != 6 || l[0].To != 1 || l[5].To != 7 {
+		t.Error(l)
+	}
 	for _, x := range []struct {
 		r    api.Rows
 		set  uint8

@@ -75,7 +75,7 @@ func TestOpenRefuses(t *testing.T) { // P6.1
 	for _, x := range []struct {
 		name string
 		want api.Errno
-	}{{"", api.ErrArg}, {strings.Repeat("n", api.MaxName-11), api.ErrArg}, {strings.Repeat("n", api.MaxName-12), api.OK}} {
+	}{{"", api.ErrArg}, {strings.Repeat("n", api.MaxName-11), api.ErrArg}, {strings.Repeat("n", api.MaxName-12), api.OK}, {"n", api.OK}} {
 		w, cut, e := wal.Open(disk.New(), x.name)
 		if e != x.want || cut != 0 || (w == nil) != (e != api.OK) {
 			t.Error(x.name, cut, e)
@@ -132,6 +132,7 @@ func TestOpenCuts(t *testing.T) { // P6.1
 	bad := slices.Clone(r(1))
 	bad[20] ^= 1
 	alone, _ := wire.Frame(make([]byte, 8))
+	short, _ := wire.Frame(make([]byte, 3))
 	for n, x := range []struct {
 		files map[string][]byte
 		held  []api.Entry
@@ -143,6 +144,7 @@ func TestOpenCuts(t *testing.T) { // P6.1
 		{map[string][]byte{"log.0": slices.Concat(r(0), r(2))}, l[:1], 1, []string{"log.0"}, len(r(2))},
 		{map[string][]byte{"log.0": slices.Concat(r(0), r(1)[:9])}, l[:1], 1, []string{"log.0"}, 9},
 		{map[string][]byte{"log.0": slices.Concat(r(0), alone)}, l[:1], 1, []string{"log.0"}, len(alone)},
+		{map[string][]byte{"log.0": slices.Concat(r(0), short, r(1))}, l[:1], 1, []string{"log.0"}, len(short) + len(r(1))},
 		{map[string][]byte{"log.0": record(0, l[0])}, nil, 1, []string{"log.0"}, len(r(0))},
 		{map[string][]byte{"log.0": record(-4, l[0])}, nil, 1, []string{"log.0"}, len(r(0))},
 		{map[string][]byte{"log.0": nil, "log.1": r(0)}, nil, 1, []string{"log.0"}, 1},
@@ -320,6 +322,10 @@ func TestBegin(t *testing.T) { // P6.4, P6.5
 	if w.Begin(0) != api.ErrArg || w.Begin(-1) != api.ErrArg {
 		t.Error("below 1")
 	}
+	c0 := d.Copy()
+	w0 := open(t, c0)
+	ok(t, w0.Begin(1))
+	holds(t, w0, 1, nil, "log.2")
 	ok(t, w.Begin(40))
 	holds(t, w, 40, nil, "log.2")
 	if w.Append(18, l) != api.ErrArg {

@@ -50,6 +50,14 @@ func TestForms(t *testing.T) { // P5.1
 	same(t, "state", wire.State(s), cat(num(1, 2, 3, 1, 4, 5, 6, 7), []byte{1}, num(1, 8, 9, 10, 11, 12, 13, 14, 1, 15, 16, 17, 18, 19, 20, 21, 1, 22, 23, 24, 25, 26, 27, 28, 29)))
 }
 
+// TestLeastEntries: a message may be full of the least entries.
+func TestLeastEntries(t *testing.T) { // P5.2
+	m := api.Message{Entries: make([]api.Entry, 60)}
+	if x, at, e := wire.ReadMessage(wire.Message(m)); len(x.Entries) != 60 || at != 0 || e != api.OK {
+		t.Error(at, e)
+	}
+}
+
 // refused fails unless reading tells this error and place, and nothing else.
 func refused[T any](t *testing.T, what string, b []byte, read func([]byte) (T, int, api.Errno), place int, want api.Errno) {
 	t.Helper()
@@ -91,7 +99,7 @@ func TestRefused(t *testing.T) { // P5.2
 	for list, least := range []int{33, 56, 56, 64} {
 		b := cat(num(0, 0, 0), num(make([]int, list)...), num(2), make([]byte, 2*least-1))
 		refused(t, "list", b, wire.ReadState, 24+8*list, api.ErrWire)
-		b = cat(num(0, 0, 0), num(make([]int, list)...), num(2), make([]byte, 2*least), num(make([]int, 3-list)...))
+		b = cat(num(0, 0, 0), num(make([]int, list)...), num(40), make([]byte, 40*least), num(make([]int, 3-list)...))
 		if x, at, e := wire.ReadState(b); at != 0 || e != api.OK || !bytes.Equal(wire.State(x), b) {
 			t.Error(list, at, e)
 		}
