@@ -110,6 +110,9 @@ func TestAsk(t *testing.T) { // P22.1
 	if _, e := a.Ask(1, 1, 1<<50+1); e != api.ErrArg {
 		t.Error(e)
 	}
+	if _, e := a.Ask(1, 1, 1<<50); e != api.OK {
+		t.Error(e)
+	}
 }
 
 func TestTold(t *testing.T) { // P22.2
@@ -223,6 +226,10 @@ func TestReports(t *testing.T) { // P22.4
 	a.Spend(1, 1, 4000)
 	reports(t, a.Reports(14000))
 	reports(t, a.Close(1, 14000))
+	b := fresh(t)
+	lend(t, b, 8, 1, 10, 4000)
+	b.Spend(1, 1, 4000)
+	reports(t, b.Close(1, 14000)) // what is not alive is dropped first, and not reported
 }
 
 // TestInTime spends at random, and holds it against what was leased and till when.

@@ -97,6 +97,9 @@ func TestOpen(t *testing.T) { // P28.1, P28.2
 	if _, e := control.Open(disk.New(), setup(1, 1), api.Rules{Lease: 1 << 30, Least: api.MaxBurst, Most: 1, Rho: 200}, 0); e != api.OK {
 		t.Error(e)
 	}
+	if _, e := control.Open(disk.New(), setup(1, 1), api.Rules{Lease: 1, Least: 1, Most: api.MaxBurst}, 0); e != api.OK {
+		t.Error(e)
+	}
 	if _, e := control.Open(disk.New(), setup(0, 1), rules, 0); e != api.ErrArg {
 		t.Error(e)
 	}
@@ -529,6 +532,29 @@ func TestWhoShares(t *testing.T) { // P28.2
 	x := two(2, 2, 70)
 	x.Epoch = 2
 	hears(t, c, lease(102, x), 400000, x, errs(api.ErrPoor))
+}
+
+// TestOthersAreShapers: another shaper counts once, however many leases it holds.
+func TestOthersAreShapers(t *testing.T) { // P28.2
+	c := rich(t, disk.New())
+	for n := 1; n <= 3; n++ {
+		c.Hear(lease(108, grant(8, n, 10)), 200000)
+	}
+	hears(t, c, lease(101, grant(1, 1, 70)), 200000, grant(1, 1, 35), api.Answer{Rate: 1000, Burst: 100, Lease: 4, Size: 35})
+}
+
+// TestSnapshotsOfAnotherSet: snapshots go on behind a change of the servers.
+func TestSnapshotsOfAnotherSet(t *testing.T) { // P28.2
+	c := alone(t, disk.New())
+	c.Hear(call(201, api.Command{Kind: api.CmdAdd, Size: 2}), elect)
+	for n := 1; n <= 150; n++ {
+		r := c.Rows()
+		c.Hear(api.Message{Kind: api.MsgAppendTell, From: 2, To: 1, Term: 1, Index: r.Base + len(r.Entries), Ok: true}, elect)
+		c.Hear(call(201, put(n, 1, n, 100)), elect)
+	}
+	if c.Rows().Base != 128 {
+		t.Error(c.Rows().Base)
+	}
 }
 
 func TestRefused(t *testing.T) { // P28.2

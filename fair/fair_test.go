@@ -154,6 +154,16 @@ func TestRun(t *testing.T) { // P26.2
 			t.Error(n, got)
 		}
 	}
+	for _, q := range [][]int{{5, 0}, {5, 1501}, {5, -1}} {
+		if got := fair.Run([]int{1}, [][]int{q}); got != nil {
+			t.Error(q, got)
+		}
+	}
+	queues := [][]int{{1, 2}, {3}}
+	fair.Run([]int{1, 1}, queues)
+	if !reflect.DeepEqual(queues, [][]int{{1, 2}, {3}}) {
+		t.Error("changed", queues)
+	}
 	if got := fair.Run([]int{1, 1}, [][]int{many[:500], many[:500]}); len(got) != 1000 {
 		t.Error(len(got))
 	}

@@ -110,8 +110,11 @@ func TestFits(t *testing.T) { // P29.3, P29.5
 		{[]api.Call{call(get(1), 2, 3, told(5, 6)), call(p, 4, 0, api.Answer{})}, nil, false},
 		{[]api.Call{call(p, 1, 3, told(5, 6)), call(get(1), 3, 4, none)}, []int{1, 0}, true}, // the ends touch
 		{[]api.Call{call(p, 1, 9, told(5, 6)), call(p, 1, 9, told(5, 6))}, []int{0, 1}, true},
-		{[]api.Call{call(get(2), 1, 0, none), call(p, 1, 9, told(5, 6))}, []int{0, 1}, true}, // place by place
-		{[]api.Call{call(p, 1, 9, told(5, 6)), call(get(2), 1, 0, none)}, []int{0}, true},    // the shorter one first
+		{[]api.Call{call(get(2), 1, 0, none), call(p, 1, 9, told(5, 6))}, []int{0, 1}, true},                                                  // place by place
+		{[]api.Call{call(p, 1, 9, told(5, 6)), call(get(2), 1, 0, none)}, []int{0}, true},                                                     // the shorter one first
+		{[]api.Call{call(p, 1, 9, told(5, 6)), call(put(1, 7, 8), 1, 9, told(7, 8)), call(get(1), 10, 11, told(5, 6))}, []int{1, 0, 2}, true}, // two rows of the same calls leave two tables
+		{[]api.Call{call(p, 1, 9, told(5, 6)), call(put(1, 5, 8), 1, 9, told(5, 8)), call(get(1), 10, 11, told(5, 6))}, []int{1, 0, 2}, true},
+		{[]api.Call{call(p, 1, 9, told(5, 6)), call(put(1, 7, 6), 1, 9, told(7, 6)), call(get(1), 10, 11, told(5, 6))}, []int{1, 0, 2}, true},
 		{[]api.Call{call(p, 1, 2, told(5, 7))}, nil, false}, {[]api.Call{call(put(1, -5, 6), 1, 2, errs(api.ErrRate))}, []int{0}, true}, {[]api.Call{call(del(1), 1, 2, api.Answer{})}, nil, false},
 	} {
 		order, ok, e := history.Fits(x.l)

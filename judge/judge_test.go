@@ -189,7 +189,7 @@ func TestFair(t *testing.T) { // P30.4
 	if !judge.Fair(flows, row(1), 0, 100, 100) || judge.Fair(flows, row(1, 1), 0, 100, 100) || !judge.Fair(flows, row(0, 1, 0, 0, 0, 1, 0), 0, 100, 100) || judge.Fair(flows, row(0, 0, 0, 0, 0, 0, 1, 1), 0, 100, 100) || !judge.Fair(flows, nil, 1, 0, 0) {
 		t.Error("fair")
 	}
-	if judge.Fair(flows, nil, 2, 0, 0) || judge.Fair(flows, nil, -1, 0, 0) || judge.Fair(nil, nil, 0, 0, 0) || judge.Fair([]api.Flow{{Weight: 1}, {}}, nil, 0, 0, 0) || judge.Fair([]api.Flow{{Weight: 17}}, nil, 0, 0, 0) || judge.Fair(slices.Repeat(flows, 5), nil, 0, 0, 0) {
+	if judge.Fair(flows, nil, 2, 0, 0) || judge.Fair(flows, nil, -1, 0, 0) || judge.Fair(nil, nil, 0, 0, 0) || judge.Fair([]api.Flow{{Weight: 1}, {}}, nil, 0, 0, 0) || judge.Fair([]api.Flow{{Weight: 17}}, nil, 0, 0, 0) || judge.Fair(slices.Repeat(flows, 5), nil, 0, 0, 0) || !judge.Fair(slices.Repeat(flows, 4), nil, 7, 0, 0) {
 		t.Error("none")
 	}
 	r := rand.New(rand.NewSource(1))

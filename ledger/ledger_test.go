@@ -282,6 +282,18 @@ func TestReportsInAnyOrder(t *testing.T) { // P18.7
 	}
 }
 
+// TestEnds: the last tenant, the last shaper and the greatest lease are like all others.
+func TestEnds(t *testing.T) { // P18.1, P18.2
+	s := api.State{Next: 5, Tenants: []api.Tenant{{Id: 16, Gone: true}}, Leases: []api.Lease{{Id: 4, Tenant: 16, Shaper: 8, Epoch: 1, Number: 1, Size: api.MaxBurst, Spent: api.MaxBurst - 1}}}
+	if !ledger.Check(s) || ledger.Out(s, 16) != 1 {
+		t.Error("may be")
+	}
+	same(t, "kept", ledger.Credit(s, 5), s)
+	if got := ledger.Expire(s, []int{4}); len(got.Tenants) != 0 {
+		t.Error(got)
+	}
+}
+
 func TestNothingShared(t *testing.T) {
 	s := base()
 	a, _ := ledger.Grant(s, 3, 4, 5, 1, 5)

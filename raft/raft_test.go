@@ -417,6 +417,12 @@ func TestSnapAsk(t *testing.T) { // P13.2
 	is(t, "an old one", n.Hear(ask(3, snap(1, 1)), 5), api.Effect{Cut: -1, Send: tell(3, 1, true), Commit: 2})
 	is(t, "of another term", n.Hear(ask(4, snap(3, 3)), 5), api.Effect{Hard: true, Cut: -1, Snap: true, Send: tell(4, 3, true), Commit: 3})
 	looks(t, "of another term", n, api.Hard{Term: 4}, 3, []int{}, 3, 3, false)
+	if r := n.Rows(); r.Term != 3 {
+		t.Error("the term of what it stands on", r.Term)
+	}
+	f := follower(t, 3, 1, 1, 2)
+	f.Hear(ask(4, snap(2, 4)), 5)
+	looks(t, "what stood behind another term", f, api.Hard{Term: 4}, 2, []int{}, 2, 3, false)
 	far := snap(1<<41, 3)
 	is(t, "however great", n.Hear(ask(4, far), 5), api.Effect{Cut: -1, Snap: true, Send: tell(4, 1<<41, true), Commit: 1 << 41})
 	looks(t, "however great", n, api.Hard{Term: 4}, 1<<41, []int{}, 1<<41, 3, false)
@@ -457,6 +463,14 @@ func TestCompact(t *testing.T) { // P13.4
 }
 
 func TestNothingShared(t *testing.T) {
+	c := setup(1, 7)
+	r := api.Rows{Entries: entries(1)}
+	n := fresh(t, c, api.Hard{Term: 1}, r, api.Snapshot{})
+	c.Draws[1], r.Entries[0].Data[0] = 99, 99
+	n.Tick(elect)
+	if x := n.Tick(elect + elect + 30); len(x.Send) != 2 || n.Rows().Entries[0].Data[0] == 99 {
+		t.Error("shared", x)
+	}
 	l := leading(t, 3, 1)
 	x := api.Entry{Kind: api.EntryCommand, Data: []byte("data")}
 	_, f, _ := l.Propose(x, 5)

@@ -168,6 +168,18 @@ func TestRebase(t *testing.T) { // P25.4, P25.5
 	}
 }
 
+func TestNothingShared(t *testing.T) {
+	v := vt(100, 1, 2, 3, 4)
+	a, _ := virtual.Wake(v, 0, 10, 2, 4)
+	b, _ := virtual.Next(v, 0, 10, 2, 4)
+	c, _, _ := virtual.Pick(v, []bool{true, true})
+	d, _ := virtual.Serve(v, 10)
+	for _, w := range []api.Virtual{a, b, c, d, virtual.Rebase(v), virtual.Rebase(vt(-1, 0, 0))} {
+		w.Flows[0] = api.Tags{Start: 9, Finish: 9}
+	}
+	same(t, "handed in", v, vt(100, 1, 2, 3, 4))
+}
+
 func TestEligible(t *testing.T) { // P25.6
 	r := rand.New(rand.NewSource(1))
 	for range 2000 {
