@@ -195,7 +195,7 @@ func (s *step) apply() {
 			s.done(w, a)
 		}
 	}
-	if c.applied-r.Base >= often {
+	if k := c.applied - r.Base; k >= often && k <= len(r.Entries) {
 		if e := c.keeper.Compact(c.snapshot(r)); e == api.ErrDown {
 			s.e = e
 		}

@@ -167,6 +167,10 @@ func TestPeakTenants(t *testing.T) { // P32.2
 	if got := drive.Tenants(l); !slices.Equal(got, []int{1, 2, 9}) || len(drive.Tenants(nil)) != 0 {
 		t.Error(got)
 	}
+	wide := []api.Sent{{Tick: 1, Tenant: 1, Size: 3}, {Tick: 1 + api.MaxTick, Tenant: 1, Size: 4}, {Tick: api.MaxTick, Tenant: 1, Size: 5}}
+	if got := drive.Peak(wide, 1, math.MaxInt); got != 9 {
+		t.Error("a width above MaxTick counts as that", got)
+	}
 	if l[2].Tenant != 2 || l[0].Tick != 5 {
 		t.Error("changed")
 	}

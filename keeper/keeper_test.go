@@ -203,6 +203,28 @@ func TestSteps(t *testing.T) { // P14.2
 	d.Crash(nil)
 	d.Open()
 	stands(t, open(t, d, 7), 2, "c")
+	d = disk.New()
+	f = open(t, d, 7)
+	f.Hear(api.Message{Kind: api.MsgAppendAsk, From: 2, To: 1, Term: 3, Entries: l3}, 5)
+	f.Hear(api.Message{Kind: api.MsgSnapAsk, From: 2, To: 1, Term: 4, Snap: api.Snapshot{Index: 2, Term: 4, Set: 3}}, 5)
+	stands(t, f, 2)
+	l, _, e = f.Hear(api.Message{Kind: api.MsgAppendAsk, From: 2, To: 1, Term: 4, Index: 2, Last: 4, Entries: []api.Entry{{Term: 4, Kind: api.EntryCommand, Data: []byte("d")}}}, 5)
+	if len(l) != 1 || !l[0].Ok || l[0].Index != 3 || e != api.OK {
+		t.Error(l, e)
+	}
+	d.Crash(nil)
+	d.Open()
+	stands(t, open(t, d, 7), 2, "d")
+}
+
+// TestCompactOfAnotherSet: the set of a snapshot is what the entries behind it stand on.
+func TestCompactOfAnotherSet(t *testing.T) { // P14.3
+	k := open(t, disk.New(), 7)
+	k.Hear(api.Message{Kind: api.MsgSnapAsk, From: 2, To: 1, Term: 1, Snap: api.Snapshot{Index: 2, Term: 1, Set: 3}}, 5)
+	k.Hear(api.Message{Kind: api.MsgAppendAsk, From: 2, To: 1, Term: 1, Index: 2, Last: 1, Commit: 3, Entries: []api.Entry{{Term: 1}}}, 5)
+	if k.Compact(api.Snapshot{Index: 3, Term: 1, Set: 7}) != api.ErrArg || k.Compact(api.Snapshot{Index: 3, Term: 1, Set: 3}) != api.OK {
+		t.Error("the set")
+	}
 }
 
 func TestNilAndDown(t *testing.T) { // P14.1 to P14.3

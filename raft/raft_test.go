@@ -91,7 +91,7 @@ func TestNew(t *testing.T) { // P13.1
 	good := func() (api.Setup, api.Hard, api.Rows, api.Snapshot) {
 		return setup(1, 7), api.Hard{Term: 4, Vote: 2, Boot: 1}, api.Rows{Base: 5, Term: 2, Entries: entries(2, 3)}, api.Snapshot{Index: 5, Term: 2, Set: 3, Data: []byte{1}}
 	}
-	for k := range 26 {
+	for k := range 30 {
 		c, h, r, s := good()
 		want := api.ErrArg
 		switch k {
@@ -147,6 +147,14 @@ func TestNew(t *testing.T) { // P13.1
 			c.Self, want = 7, api.OK
 		case 25:
 			want = api.OK
+		case 26:
+			c.Elect, c.Beat, want = 1, 1, api.OK
+		case 27:
+			r, s = api.Rows{}, api.Snapshot{Set: 1}
+		case 28:
+			s.Data, want = make([]byte, api.MaxText-17), api.OK
+		case 29:
+			r, s = api.Rows{Entries: entries(1)}, api.Snapshot{Set: 1, Data: []byte{1}}
 		}
 		n, e := raft.New(c, h, r, s, 0)
 		if e != want || (n == nil) != (e != api.OK) {
@@ -208,6 +216,20 @@ func TestAlone(t *testing.T) { // P13.2
 	out := fresh(t, setup(4, 7), api.Hard{}, api.Rows{}, api.Snapshot{})
 	is(t, "not in its set", out.Tick(elect), api.Effect{Cut: -1})
 	looks(t, "not in its set", out, api.Hard{}, 0, []int{}, 0, 0, false)
+	one := fresh(t, setup(1, 1), api.Hard{}, api.Rows{}, api.Snapshot{})
+	one.Tick(elect)
+	index, x, e := one.Propose(api.Entry{Kind: api.EntryCommand, Stamp: 7}, elect)
+	is(t, "alone", x, api.Effect{Cut: -1, Add: []api.Entry{{Term: 1, Kind: api.EntryCommand, Stamp: 7}}, Commit: 2})
+	if index != 2 || e != api.OK {
+		t.Error(index, e)
+	}
+	c := setup(1, 1)
+	c.Draws = nil
+	none := fresh(t, c, api.Hard{}, api.Rows{}, api.Snapshot{})
+	is(t, "no draws", none.Tick(elect-1), api.Effect{Cut: -1})
+	if none.Tick(elect); !none.Leads() {
+		t.Error("no draws")
+	}
 	full := make([]int, api.MaxEntries)
 	for k := range full {
 		full[k] = 1
@@ -296,6 +318,9 @@ func TestAppendAsk(t *testing.T) { // P13.2
 	looks(t, "behind", n, api.Hard{Term: 5}, 0, []int{1, 1, 2, 5, 5}, 3, 3, false)
 	if x := n.Tick(70 + elect - 1); len(x.Send) != 0 {
 		t.Error("the deadline", x)
+	}
+	if n.Tick(70 + elect + 30); n.Leader() != 0 || n.Hard().Term != 6 {
+		t.Error("a candidate knows no leader", n.Leader(), n.Hard())
 	}
 	l := leading(t, 3, 1)
 	l.Hear(ask(4, 0, 0, 0), 120)
@@ -409,6 +434,16 @@ func TestSnapAsk(t *testing.T) { // P13.2
 	is(t, "a lesser term", n.Hear(ask(2, snap(2, 1)), 5), api.Effect{Cut: -1, Send: tell(3, 3, false)})
 	is(t, "may not be", n.Hear(ask(3, api.Snapshot{Index: 2, Term: 1}), 5), api.Effect{Cut: -1, Send: tell(3, 3, false)})
 	looks(t, "may not be", n, api.Hard{Term: 3}, 0, []int{1, 1, 2}, 0, 3, false)
+	for k, s := range []api.Snapshot{{Index: 2, Set: 3}, {Term: 1, Set: 3}, {Index: -1, Term: 1, Set: 3}, {Index: 2, Term: -1, Set: 3}, {Index: 2, Term: 1, Set: 3, Data: make([]byte, api.MaxText-16)}} {
+		is(t, "may not be", n.Hear(ask(3, s), 5), api.Effect{Cut: -1, Send: tell(3, 3, false)})
+		if n.Commit() != 0 {
+			t.Fatal(k)
+		}
+	}
+	big := follower(t, 3)
+	if x := big.Hear(ask(3, api.Snapshot{Index: 2, Term: 1, Set: 3, Data: make([]byte, api.MaxText-17)}), 5); !x.Snap {
+		t.Error("the greatest one")
+	}
 	is(t, "of its rows", n.Hear(ask(3, snap(2, 1)), 5), api.Effect{Cut: -1, Snap: true, Send: tell(3, 2, true), Commit: 2})
 	looks(t, "of its rows", n, api.Hard{Term: 3}, 2, []int{2}, 2, 3, false)
 	if n.Set() != 3 || !reflect.DeepEqual(n.Snap(), snap(2, 1)) {
