@@ -460,6 +460,67 @@ func TestCrashes(t *testing.T) { // P31.1, P31.2
 	}
 }
 
+// TestTwoLeaders: of a leader that is cut off and a later one it is the later one.
+func TestTwoLeaders(t *testing.T) { // P31.2
+	for first := 1; first <= 3; first++ {
+		p := small()
+		p.Nodes, p.Set, p.Draws = 7, 7, []int{6000, 6000, 6000}
+		p.Draws[(3-first+1)%3] = 3000 // who turns it so far begins first
+		c := begin(t, p)
+		until := func(old int) {
+			for n := 0; c.Leader() == old && n < 90; n++ {
+				do(t, c, tick(1))
+				for k := 0; c.Len() > 0 && k < 90; k++ {
+					do(t, c, api.Event{Kind: api.EvDeliver})
+				}
+			}
+		}
+		until(0)
+		old := c.Leader()
+		for k := 1; k <= 3; k++ {
+			do(t, c, api.Event{Kind: api.EvCut, From: old, To: k}, api.Event{Kind: api.EvCut, From: k, To: old})
+		}
+		until(old)
+		later := c.Leader()
+		if old == 0 || later == 0 || later == old {
+			t.Fatal(old, later)
+		}
+		do(t, c, api.Event{Kind: api.EvCrash, Node: later})
+		if c.Leader() != old {
+			t.Error("it leads still", c.Leader(), old)
+		}
+	}
+}
+
+// TestEndOfTime: no more than MaxTick true ticks go by.
+func TestEndOfTime(t *testing.T) { // P31.1
+	c := begin(t, small())
+	do(t, c, api.Event{Kind: api.EvCrash, Node: 1}, api.Event{Kind: api.EvCrash, Node: 101})
+	for range api.MaxTick / 1000000 {
+		c.Do(tick(1000000))
+	}
+	left := api.MaxTick % 1000000
+	if c.Do(tick(left+1)) != api.ErrArg || c.Do(tick(left)) != api.OK || c.Do(tick(1)) != api.ErrArg || c.Do(tick(0)) != api.OK || c.Now() != api.MaxTick {
+		t.Error(c.Now())
+	}
+}
+
+func TestPlanIsNotKept(t *testing.T) {
+	p := small()
+	p.Draws = []int{5000}
+	c := begin(t, p)
+	p.Flows[0], p.Draws[0] = api.Flow{}, 0
+	do(t, c, api.Event{Kind: api.EvCrash, Node: 101}, api.Event{Kind: api.EvStart, Node: 101}, pk(t, 1, 9), api.Event{Kind: api.EvCrash, Node: 1}, api.Event{Kind: api.EvStart, Node: 1}, tick(14))
+	if c.Leader() != 0 {
+		t.Error("draws")
+	}
+	p = small()
+	p.Lease, p.Least, p.Most, p.Elect, p.Beat = 1, 1, 1, 1, 1
+	begin(t, p)
+	p.Lease, p.Least, p.Most, p.Elect, p.Beat, p.Rho = 1<<20, api.MaxBurst, api.MaxBurst, 1<<20, 1<<20, 200
+	begin(t, p)
+}
+
 func TestRun(t *testing.T) { // P31.2
 	l := []api.Event{tick(20), put(1, 1, 1, 1, 1000, 100), {Kind: api.EvDeliver}, {Kind: 99}, {Kind: api.EvDeliver}}
 	o, errs, e := cluster.Run(small(), l)
