@@ -316,6 +316,9 @@ func TestCalls(t *testing.T) { // P31.1
 		t.Error(o.Calls, o.Force)
 	}
 	do(t, c, api.Event{Kind: api.EvAdd, Node: 1, K: 2})
+	if m, _ := c.Message(0); m.From != 201 || m.To != 1 {
+		t.Error(m)
+	}
 	if x := data(0); x.Kind != api.CmdAdd || x.Size != 2 {
 		t.Error(x)
 	}
@@ -345,6 +348,8 @@ func TestForce(t *testing.T) { // P31.2
 		}
 	}
 	l := c.Leader()
+	settle(t, c)
+	do(t, c, tick(1))
 	settle(t, c)
 	at := c.Now()
 	do(t, c, put(l, 1, 1, 1, 1000, 100), api.Event{Kind: api.EvDeliver})
@@ -401,10 +406,12 @@ func TestWants(t *testing.T) { // P31.1
 		settle(t, c)
 	}
 	asks(5, 50)
-	asks(9, 70) // at most Most
+	do(t, c, pk(t, 2, 20))
+	asks(9, 70) // at most Most, and behind 5
+	asks(2, 20) // round and round
 	asks(9, 50) // 5 has enough
 	do(t, c, pk(t, 5, 10), pk(t, 2, 20), pk(t, 9, 8))
-	asks(2, 20) // round and round
+	asks(2, 20)
 	asks(5, 10)
 	do(t, c, api.Event{Kind: api.EvCrash, Node: 101}, api.Event{Kind: api.EvStart, Node: 101})
 	if c.Tokens(1, 9) != 0 {
