@@ -1,6 +1,8 @@
 package cluster
 
 import (
+	"maps"
+
 	"weir/api"
 	"weir/control"
 	"weir/sessions"
@@ -47,7 +49,7 @@ func (s *story) take(x api.Entry, tick int) {
 	if at, was := s.seen[mark{s.last, x.Term}]; was {
 		tick = at
 	}
-	delete(s.seen, mark{s.last, x.Term})
+	maps.DeleteFunc(s.seen, func(m mark, _ int) bool { return m.index <= s.last })
 	c, _, _ := wire.ReadCommand(x.Data)
 	was := sessions.Last(s.state.Sessions, c.Client)
 	next, a := state.Apply(s.state, x)
