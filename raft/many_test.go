@@ -52,7 +52,14 @@ func (w *world) keep(k int, x api.Effect) {
 			w.t.Fatal("a snapshot, and rows")
 		}
 	}
+	last, _ := rows.Last(d.rows)
+	if (x.Cut == -1) != (len(x.Add) == 0) || x.Cut != -1 && (x.Cut < d.rows.Base || x.Cut > last) {
+		w.t.Fatal("cut", x.Cut, len(x.Add))
+	}
 	if x.Cut >= 0 {
+		if x.Cut < last && d.rows.Entries[x.Cut-d.rows.Base].Term == x.Add[0].Term {
+			w.t.Fatal("the same goes, and comes again")
+		}
 		d.rows.Entries = d.rows.Entries[:x.Cut-d.rows.Base]
 	}
 	d.rows.Entries = append(d.rows.Entries[:len(d.rows.Entries):len(d.rows.Entries)], x.Add...)

@@ -200,7 +200,7 @@ func TestElection(t *testing.T) { // P13.2
 	send := func(to, commit int) api.Message {
 		return api.Message{Kind: api.MsgAppendAsk, From: 1, To: to, Term: 5, Index: 2, Last: 2, Entries: []api.Entry{none}, Commit: commit}
 	}
-	is(t, "it leads", n.Hear(tell, 231), api.Effect{Cut: -1, Add: []api.Entry{none}, Send: []api.Message{send(2, 0), send(3, 0)}})
+	is(t, "it leads", n.Hear(tell, 231), api.Effect{Cut: 2, Add: []api.Entry{none}, Send: []api.Message{send(2, 0), send(3, 0)}})
 	looks(t, "leader", n, api.Hard{Term: 5, Vote: 1}, 0, []int{1, 2, 5}, 0, 1, true)
 	is(t, "a vote more", n.Hear(api.Message{Kind: api.MsgVoteTell, From: 2, To: 1, Term: 5, Ok: true}, 232), api.Effect{Cut: -1})
 	is(t, "no beat", n.Tick(240), api.Effect{Cut: -1})
@@ -211,7 +211,7 @@ func TestElection(t *testing.T) { // P13.2
 
 func TestAlone(t *testing.T) { // P13.2
 	n := fresh(t, setup(3, 4), api.Hard{}, api.Rows{}, api.Snapshot{})
-	is(t, "alone", n.Tick(elect), api.Effect{Hard: true, Cut: -1, Add: []api.Entry{{Term: 1}}, Commit: 1})
+	is(t, "alone", n.Tick(elect), api.Effect{Hard: true, Cut: 0, Add: []api.Entry{{Term: 1}}, Commit: 1})
 	looks(t, "alone", n, api.Hard{Term: 1, Vote: 3}, 0, []int{1}, 1, 3, true)
 	out := fresh(t, setup(4, 7), api.Hard{}, api.Rows{}, api.Snapshot{})
 	is(t, "not in its set", out.Tick(elect), api.Effect{Cut: -1})
@@ -219,7 +219,7 @@ func TestAlone(t *testing.T) { // P13.2
 	one := fresh(t, setup(1, 1), api.Hard{}, api.Rows{}, api.Snapshot{})
 	one.Tick(elect)
 	index, x, e := one.Propose(api.Entry{Kind: api.EntryCommand, Stamp: 7}, elect)
-	is(t, "alone", x, api.Effect{Cut: -1, Add: []api.Entry{{Term: 1, Kind: api.EntryCommand, Stamp: 7}}, Commit: 2})
+	is(t, "alone", x, api.Effect{Cut: 1, Add: []api.Entry{{Term: 1, Kind: api.EntryCommand, Stamp: 7}}, Commit: 2})
 	if index != 2 || e != api.OK {
 		t.Error(index, e)
 	}
@@ -311,7 +311,7 @@ func TestAppendAsk(t *testing.T) { // P13.2
 	is(t, "too far", n.Hear(ask(3, 9, 3, 3), 50), api.Effect{Cut: -1, Send: tell(3, 3, false)})
 	is(t, "rotten", n.Hear(ask(3, -1, 3, 3), 50), api.Effect{Cut: -1, Send: tell(3, 3, false)})
 	looks(t, "leader known", n, api.Hard{Term: 3}, 0, []int{1, 1, 2}, 0, 3, false)
-	is(t, "one more", n.Hear(ask(3, 3, 2, 2, 3), 50), api.Effect{Cut: -1, Add: entries(3), Send: tell(3, 4, true), Commit: 2})
+	is(t, "one more", n.Hear(ask(3, 3, 2, 2, 3), 50), api.Effect{Cut: 3, Add: entries(3), Send: tell(3, 4, true), Commit: 2})
 	is(t, "again", n.Hear(ask(3, 3, 2, 1, 3), 50), api.Effect{Cut: -1, Send: tell(3, 4, true), Commit: 2})
 	is(t, "commit above what is the same", n.Hear(ask(3, 2, 1, 9, 2), 60), api.Effect{Cut: -1, Send: tell(3, 3, true), Commit: 3})
 	is(t, "others, a greater term", n.Hear(ask(5, 3, 2, 0, 5, 5), 70), api.Effect{Hard: true, Cut: 3, Add: entries(5, 5), Send: tell(5, 5, true), Commit: 3})
@@ -330,6 +330,44 @@ func TestAppendAsk(t *testing.T) { // P13.2
 	c.Hear(ask(4, 1, 1, 0), 120)
 	c.Hear(api.Message{Kind: api.MsgVoteTell, From: 2, To: 1, Term: 4, Ok: true}, 130)
 	looks(t, "a candidate that hears a leader", c, api.Hard{Term: 4, Vote: 1}, 0, []int{1}, 0, 3, false)
+}
+
+// TestCut: behind which index rows are others than they were, where they grow, where some go, and where they stay, on a snapshot too.
+func TestCut(t *testing.T) { // P13.2
+	ask := func(term, index, last int, terms ...int) api.Message {
+		return api.Message{Kind: api.MsgAppendAsk, From: 2, To: 1, Term: term, Index: index, Last: last, Entries: entries(terms...)}
+	}
+	on := api.Snapshot{Index: 10, Term: 2, Set: 7}
+	n := fresh(t, setup(1, 7), api.Hard{Term: 3}, api.Rows{Base: 10, Term: 2}, on)
+	for _, x := range []struct {
+		what string
+		m    api.Message
+		cut  int
+		add  []api.Entry
+	}{
+		{"behind none", ask(3, 10, 2, 2, 2, 3), 10, entries(2, 2, 3)},
+		{"nothing", ask(3, 13, 3), -1, nil},
+		{"the same", ask(3, 10, 2, 2, 2, 3), -1, nil},
+		{"the first of them", ask(3, 10, 2, 2), -1, nil},
+		{"behind the last", ask(4, 13, 3, 4), 13, entries(4)},
+		{"the same, and one more", ask(4, 12, 2, 3, 4, 4), 14, entries(4)},
+		{"from below the base", ask(4, 9, 2, 2, 2, 2, 3, 4, 4, 4), 15, entries(4)},
+		{"not ok", ask(5, 16, 5, 5), -1, nil},
+		{"others than the last", ask(5, 15, 4, 5), 15, entries(5)},
+		{"others than some, fewer", ask(6, 11, 2, 2, 6), 12, entries(6)},
+		{"others than all", ask(7, 10, 2, 7), 10, entries(7)},
+	} {
+		if got := n.Hear(x.m, 5); got.Cut != x.cut || !reflect.DeepEqual(got.Add, x.add) {
+			t.Error(x.what, got)
+		}
+	}
+	alone := fresh(t, setup(1, 1), api.Hard{Term: 3}, api.Rows{Base: 10, Term: 2, Entries: entries(2)}, api.Snapshot{Index: 10, Term: 2, Set: 1})
+	if x := alone.Tick(elect); x.Cut != 11 || len(x.Add) != 1 {
+		t.Error("it leads", x)
+	}
+	if index, x, e := alone.Propose(api.Entry{Kind: api.EntrySet, Set: 3}, elect); index != 13 || x.Cut != 12 || len(x.Add) != 1 || e != api.OK {
+		t.Error("a set", index, x, e)
+	}
 }
 
 func TestAppendTell(t *testing.T) { // P13.2
@@ -380,7 +418,7 @@ func TestPropose(t *testing.T) { // P13.3
 	send := func(to, commit, index, last int, l ...api.Entry) api.Message {
 		return api.Message{Kind: api.MsgAppendAsk, From: 1, To: to, Term: 4, Index: index, Last: last, Entries: l, Commit: commit}
 	}
-	is(t, "propose", x, api.Effect{Cut: -1, Add: []api.Entry{cmd}, Send: []api.Message{send(2, 0, 1, 1, api.Entry{Term: 4}, cmd), send(3, 0, 1, 1, api.Entry{Term: 4}, cmd)}})
+	is(t, "propose", x, api.Effect{Cut: 2, Add: []api.Entry{cmd}, Send: []api.Message{send(2, 0, 1, 1, api.Entry{Term: 4}, cmd), send(3, 0, 1, 1, api.Entry{Term: 4}, cmd)}})
 	if index != 3 || e != api.OK {
 		t.Error(index, e)
 	}

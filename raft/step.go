@@ -38,17 +38,16 @@ func (s *step) end() api.Effect {
 	return s.Effect
 }
 
-// change is behind which index rows are others than they were (-1, if none went), and what stands there now. Both have one base.
+// change is behind which index rows are others than they were (-1, if they are as they were), and what stands there now. Both have one base.
 func change(was, is api.Rows) (int, []api.Entry) {
 	k := 0
 	for k < len(was.Entries) && k < len(is.Entries) && was.Entries[k].Term == is.Entries[k].Term {
 		k++
 	}
-	cut := -1
-	if k < len(was.Entries) {
-		cut = was.Base + k
+	if k == len(was.Entries) && k == len(is.Entries) {
+		return -1, nil
 	}
-	return cut, each(is.Entries[k:], twin)
+	return was.Base + k, each(is.Entries[k:], twin)
 }
 
 // Tick: P13.2.
